@@ -4,6 +4,9 @@ package gambit
 import (
 	"gambit/api"
 	"gambit/check"
+	"gambit/code"
+	"gambit/emit"
+	"gambit/machine"
 	"gambit/parse"
 	"gambit/scan"
 	"gambit/tree"
@@ -11,7 +14,7 @@ import (
 
 // Program is a program that was read.
 type Program struct {
-	functions []string
+	code *code.Program
 }
 
 // Compile reads a program (P3).
@@ -20,11 +23,7 @@ func Compile(text string) (*Program, api.Fault) {
 	if fault.Code != api.OK {
 		return nil, fault
 	}
-	program := &Program{}
-	for _, f := range check.Functions(read) {
-		program.functions = append(program.functions, f.Ident.Name)
-	}
-	return program, api.Fault{}
+	return &Program{code: emit.Program(read)}, api.Fault{}
 }
 
 // readText asks for one sort of fault after the other, in the order in which they are to be told.
@@ -48,10 +47,14 @@ func readText(text string) (*tree.Program, api.Fault) {
 
 // Functions tells the functions' names (P3).
 func (p *Program) Functions() []string {
-	names := make([]string, len(p.functions))
-	copy(names, p.functions)
+	names := make([]string, len(p.code.Functions))
+	for i := range names {
+		names[i] = p.code.Functions[i].Name
+	}
 	return names
 }
 
 // Run runs the program (P4, P5).
-func (p *Program) Run(bets []api.Bet) api.Result { return api.Result{} }
+func (p *Program) Run(bets []api.Bet) api.Result {
+	return machine.Run(p.code)
+}

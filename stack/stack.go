@@ -32,6 +32,13 @@ func (s *Stack[T]) At(place int) T {
 	return s.values[place]
 }
 
+// Put sets the value with so many below it; where none is, nothing is set.
+func (s *Stack[T]) Put(place int, value T) {
+	if place >= 0 && place < len(s.values) {
+		s.values[place] = value
+	}
+}
+
 // Cut takes values away until no more than so many are left.
 func (s *Stack[T]) Cut(length int) {
 	if length < 0 || length >= len(s.values) {

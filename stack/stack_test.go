@@ -36,3 +36,16 @@ func TestCut(t *testing.T) {
 		}
 	}
 }
+
+func TestPut(t *testing.T) {
+	var s Stack[int]
+	s.Put(0, 7)
+	s.Push(1)
+	s.Push(2)
+	s.Put(0, 3)
+	s.Put(2, 4)
+	s.Put(-1, 5)
+	if s.Len() != 2 || s.At(0) != 3 || s.At(1) != 2 {
+		t.Errorf("Len %d, At(0) %d, At(1) %d, want 2, 3, 2", s.Len(), s.At(0), s.At(1))
+	}
+}
