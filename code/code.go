@@ -23,12 +23,20 @@ const (
 	Or      // goes to Arg if the bool on top is true, else takes it away
 	AskBool // asks if the top is a bool
 
-	Add
+	// What ends with Ints or Int, and Join, does not ask of what sort the values are: fast forms have it where that is known.
+	Add // of ints, or of strings
+	AddInts
+	Join // of strings
 	Subtract
+	SubtractInts
 	Multiply
+	MultiplyInts
 	Divide
+	DivideInts
 	Rest
+	RestInts
 	Negate
+	NegateInt
 
 	Equal
 	NotEqual
@@ -37,6 +45,10 @@ const (
 	Less
 	GreaterEqual
 	LessEqual
+	GreaterInts
+	LessInts
+	GreaterEqualInts
+	LessEqualInts
 
 	List     // makes an array of Arg values
 	Length   // of a string or an array

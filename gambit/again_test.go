@@ -24,6 +24,7 @@ func strangeBets() [][]api.Bet {
 	for i := range many {
 		many[i] = api.Bet{Func: i % 3, After: i / 2, Kinds: []int{i % 8, 1}, Ints: []int64{int64(i)}}
 	}
+	spare := []api.Bet{{Kinds: []int{api.String, api.Bool, api.Null}[:1], Ints: []int64{1, 2, 3}[:1]}, {Func: 1, Kinds: []int{api.Same, api.Same, api.Null}[:2], Ints: []int64{0, 9}[:1]}, {Kinds: []int{api.Int}}}[:2]
 	return [][]api.Bet{
 		nil,
 		{},
@@ -35,6 +36,7 @@ func strangeBets() [][]api.Bet {
 		{{Kinds: []int{api.Same}}, {Kinds: []int{api.Same, api.Same, api.Same}, Ints: []int64{1}}, {Kinds: make([]int, 1000), Ints: make([]int64, 1000)}},
 		many,
 		make([]api.Bet, 10000),
+		spare,
 	}
 }
 
@@ -42,7 +44,7 @@ func sameRun(one, two api.Result) bool {
 	return slices.Equal(one.Out, two.Out) && one.Code == two.Code && one.Line == two.Line
 }
 
-// P1, P4: whatever is bet, the program does the same.
+// P1, P4, P6: whatever is bet, the program does the same.
 func TestWhateverIsBet(t *testing.T) {
 	for _, text := range []string{"", "print 1;", "fn f() { } f();", busy, "fn f(x, y, z) { return f(y, z, x); } f(1, null, []);", "while true { }"} {
 		p := compiled(t, text)
@@ -83,14 +85,20 @@ func TestRunsAgain(t *testing.T) {
 // P2: runs that are under way at one time have nothing from one another.
 func TestRunsAtOnce(t *testing.T) {
 	p := compiled(t, busy)
-	want := p.Run(nil)
-	results := make(chan api.Result)
-	for range 8 {
-		go func() { results <- p.Run(nil) }()
+	all := strangeBets()
+	var want []api.Result
+	for _, bets := range all {
+		want = append(want, p.Run(bets))
 	}
-	for range 8 {
-		if got := <-results; !sameRun(got, want) {
-			t.Errorf("Run beside others: %+v, want %+v", got, want)
+	done := make(chan bool)
+	for range 4 {
+		for i, bets := range all {
+			go func() { done <- reflect.DeepEqual(p.Run(bets), want[i]) }()
+		}
+	}
+	for range 4 * len(all) {
+		if !<-done {
+			t.Errorf("a run beside others answers something else")
 		}
 	}
 }
@@ -125,33 +133,65 @@ func TestBetsAreNotChanged(t *testing.T) {
 	}
 }
 
+// P2: what a run answered stays when its bets are changed, and other bets like them mean the same.
+func TestBetsAreNotKept(t *testing.T) {
+	p := compiled(t, busy)
+	for i := range strangeBets() {
+		bets := strangeBets()[i]
+		want := compiled(t, busy).Run(strangeBets()[i])
+		got := p.Run(bets)
+		for j := range bets {
+			for k := range bets[j].Kinds {
+				bets[j].Kinds[k] = api.Null
+			}
+			for k := range bets[j].Ints {
+				bets[j].Ints[k] = 77
+			}
+			bets[j].After++
+		}
+		if !reflect.DeepEqual(got, want) {
+			t.Errorf("bets %d, changed behind the run: %+v, want %+v", i, got, want)
+		}
+		if got := p.Run(strangeBets()[i]); !reflect.DeepEqual(got, want) {
+			t.Errorf("bets like %d: %+v, want %+v", i, got, want)
+		}
+	}
+}
+
 // P2: Out, Fast and Drops are new memory, each apart from the others.
 func TestResultsAreNew(t *testing.T) {
-	for _, text := range []string{busy, "print 1; print 2; print 3; fn a() { } fn b() { } fn c() { } fn d() { } fn e() { }", "print 1;", "fn f() { }", ""} {
-		p := compiled(t, text)
-		want := p.Run(nil)
-		one, two := p.Run(nil), p.Run(nil)
-		for i := range one.Out[:cap(one.Out)] {
-			one.Out[:cap(one.Out)][i] = "spoilt"
+	for _, text := range []string{busy, "print 1; print 2; print 3; fn a() { } fn b() { } fn c() { } fn d() { } fn e() { }", "print 1;", "fn f() { }", "fn f(x) { } f(1); f(null); print f(2); fn g(x) { } g(1);", ""} {
+		for _, bets := range strangeBets() {
+			holdNew(t, text, bets)
 		}
-		for i := range one.Fast[:cap(one.Fast)] {
-			one.Fast[:cap(one.Fast)][i] = -7
-		}
-		if slices.Contains(one.Drops[:cap(one.Drops)], -7) {
-			t.Errorf("%q: Fast and Drops share memory", text)
-		}
-		for i := range one.Drops[:cap(one.Drops)] {
-			one.Drops[:cap(one.Drops)][i] = -8
-		}
-		if slices.Contains(one.Fast[:cap(one.Fast)], -8) {
-			t.Errorf("%q: Drops and Fast share memory", text)
-		}
-		if slices.Contains(two.Out[:cap(two.Out)], "spoilt") || !reflect.DeepEqual(two, want) {
-			t.Errorf("%q: two results share memory: %+v", text, two)
-		}
-		if got := p.Run(nil); !reflect.DeepEqual(got, want) {
-			t.Errorf("%q: Run behind a change of an older result: %+v, want %+v", text, got, want)
-		}
+	}
+}
+
+func holdNew(t *testing.T, text string, bets []api.Bet) {
+	t.Helper()
+	p := compiled(t, text)
+	want := p.Run(bets)
+	one, two := p.Run(bets), p.Run(bets)
+	for i := range one.Out[:cap(one.Out)] {
+		one.Out[:cap(one.Out)][i] = "spoilt"
+	}
+	for i := range one.Fast[:cap(one.Fast)] {
+		one.Fast[:cap(one.Fast)][i] = -7
+	}
+	if slices.Contains(one.Drops[:cap(one.Drops)], -7) {
+		t.Errorf("%q: Fast and Drops share memory", text)
+	}
+	for i := range one.Drops[:cap(one.Drops)] {
+		one.Drops[:cap(one.Drops)][i] = -8
+	}
+	if slices.Contains(one.Fast[:cap(one.Fast)], -8) {
+		t.Errorf("%q: Drops and Fast share memory", text)
+	}
+	if slices.Contains(two.Out[:cap(two.Out)], "spoilt") || !reflect.DeepEqual(two, want) {
+		t.Errorf("%q: two results share memory: %+v", text, two)
+	}
+	if got := p.Run(bets); !reflect.DeepEqual(got, want) {
+		t.Errorf("%q: Run behind a change of an older result: %+v, want %+v", text, got, want)
 	}
 }
 

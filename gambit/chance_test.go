@@ -2,6 +2,7 @@ package gambit_test
 
 import (
 	"math/rand/v2"
+	"slices"
 	"strings"
 	"testing"
 
@@ -64,6 +65,29 @@ func (m *maker) program() string {
 	for _, f := range left {
 		m.function(f)
 	}
+	return m.text()
+}
+
+// calling makes functions, and a program that does nothing but call them.
+func (m *maker) calling() string {
+	m.write("let c = 1 ; let d = \"d\" ; let e = [ 0 ] ;")
+	m.vars = []variable{{"c", 'i'}, {"d", 's'}, {"e", 'a'}}
+	m.functions = []signature{{"f", string(m.sort()) + string(m.sort()), m.sort()}, {"g", string(m.sort()), m.sort()}}
+	for _, f := range m.functions {
+		m.function(f)
+	}
+	body := m.wrongs
+	for range 12 {
+		m.wrongs = 6
+		m.write("print")
+		m.callOf(m.functions[m.random.IntN(2)], 1+m.random.IntN(2))
+		m.write(";")
+	}
+	m.wrongs = body
+	return m.text()
+}
+
+func (m *maker) text() string {
 	text := ""
 	for _, token := range m.tokens {
 		text += token + m.one(" ", " ", "\n")
@@ -115,7 +139,7 @@ func (m *maker) body(depth int) {
 }
 
 func (m *maker) statement(depth int) {
-	switch n := m.random.IntN(14); {
+	switch n := m.random.IntN(16); {
 	case n < 3:
 		m.let()
 	case n < 5:
@@ -148,8 +172,11 @@ func (m *maker) statement(depth int) {
 		m.write(",")
 		m.expr(m.sort(), 2)
 		m.write(") ;")
-	default:
+	case n < 14 || len(m.functions) == 0:
 		m.expr(m.sort(), 3)
+		m.write(";")
+	default:
+		m.callOf(m.functions[m.random.IntN(len(m.functions))], 2)
 		m.write(";")
 	}
 }
@@ -278,17 +305,21 @@ func (m *maker) call(sort byte, depth int) bool {
 		if f.answer != sort || m.chance(2) {
 			continue
 		}
-		m.write(f.name + " (")
-		for i := range f.params {
-			if i > 0 {
-				m.write(",")
-			}
-			m.expr(f.params[i], depth-1)
-		}
-		m.write(")")
+		m.callOf(f, depth)
 		return true
 	}
 	return false
+}
+
+func (m *maker) callOf(f signature, depth int) {
+	m.write(f.name + " (")
+	for i := range f.params {
+		if i > 0 {
+			m.write(",")
+		}
+		m.expr(f.params[i], depth-1)
+	}
+	m.write(")")
 }
 
 func (m *maker) signs(left byte, sign string, right byte, depth int) {
@@ -353,17 +384,35 @@ func (m *maker) array(depth int) {
 	m.write("]")
 }
 
+// bets are made up such that most of them hold for a while, if the program is one of the maker's own.
 func (m *maker) bets() []api.Bet {
 	var bets []api.Bet
 	for range m.random.IntN(api.MaxBets + 5) {
 		bet := api.Bet{Func: m.random.IntN(5) - 1, After: m.random.IntN(6) - 1}
-		for range m.random.IntN(4) {
-			bet.Kinds = append(bet.Kinds, m.random.IntN(9)-1)
+		if m.chance(4) {
+			bet.After = m.random.IntN(60)
+		}
+		for place := range m.random.IntN(4) {
+			bet.Kinds = append(bet.Kinds, m.kind(bet.Func, place))
 			bet.Ints = append(bet.Ints, int64(m.random.IntN(4)))
 		}
+		bet.Ints = bet.Ints[:m.random.IntN(len(bet.Ints)+1)]
 		bets = append(bets, bet)
 	}
 	return bets
+}
+
+// kind is the one of a parameter's sort, mostly.
+func (m *maker) kind(function, place int) int {
+	if function < 0 || function >= len(m.functions) || place >= len(m.functions[function].params) || m.chance(5) {
+		return m.random.IntN(9) - 1
+	}
+	kinds := [len(sorts)]int{api.Int, api.Bool, api.String, api.Array, api.Null}
+	kind := kinds[strings.IndexByte(sorts, m.functions[function].params[place])]
+	if kind == api.Int && m.chance(4) {
+		return api.Same
+	}
+	return kind
 }
 
 // holdRun asks for what a walk over the tree answers; it is false where there is no program.
@@ -376,26 +425,38 @@ func holdRun(t *testing.T, text string, bets []api.Bet, seen map[api.Errno]int) 
 	}
 	tokens, _ := scan.Scan(text)
 	read, _ := parse.Program(tokens)
-	want := walk(read)
+	want := walk(read, bets)
 	seen[want.Code]++
 	if got := p.Run(nil); !sameRun(got, want) {
 		t.Fatalf("Run of\n%s\n= %q, %d in line %d; want %q, %d in line %d", text, got.Out, got.Code, got.Line, want.Out, want.Code, want.Line)
 	}
-	if got := p.Run(bets); !sameRun(got, want) {
+	got := p.Run(bets)
+	if !sameRun(got, want) {
 		t.Fatalf("Run of\n%s\nwith the bets %+v = %q, %d in line %d; want %q, %d in line %d", text, bets, got.Out, got.Code, got.Line, want.Out, want.Code, want.Line)
+	}
+	if !slices.Equal(got.Fast, want.Fast) || !slices.Equal(got.Drops, want.Drops) {
+		t.Fatalf("Run of\n%s\nwith the bets %+v: Fast %v, Drops %v; want %v, %v", text, bets, got.Fast, got.Drops, want.Fast, want.Drops)
+	}
+	for i := range got.Fast {
+		seen[fastCalls] += got.Fast[i]
+		seen[drops] += got.Drops[i]
 	}
 	return true
 }
 
-// P1, P4: programs that are made up do what a walk over their tree does, whatever is bet.
+// Beside what programs answer it is also counted how their functions fare.
+const fastCalls, drops api.Errno = 100, 101
+
+// P1, P4, P5, P6: programs that are made up do what a walk over their tree does, whatever is bet.
 func TestAgainstAWalk(t *testing.T) {
 	random := rand.New(rand.NewPCG(3, 4))
 	seen := map[api.Errno]int{}
 	for i := range 8000 {
 		m := &maker{random: random, wrongs: 20 << (i % 8)}
-		holdRun(t, m.program(), m.bets(), seen)
+		text := m.program()
+		holdRun(t, text, m.bets(), seen)
 	}
-	for code, least := range map[api.Errno]int{api.OK: 1000, api.ErrType: 500, api.ErrDivide: 100, api.ErrIndex: 100, api.ErrFuel: 100, api.ErrDepth: 50, api.ErrMemory: 50} {
+	for code, least := range map[api.Errno]int{api.OK: 1000, api.ErrType: 500, api.ErrDivide: 100, api.ErrIndex: 100, api.ErrFuel: 100, api.ErrDepth: 50, api.ErrMemory: 50, fastCalls: 10000, drops: 100} {
 		if seen[code] < least {
 			t.Errorf("only %d programs with the answer %d", seen[code], code)
 		}
@@ -403,7 +464,22 @@ func TestAgainstAWalk(t *testing.T) {
 	t.Log(seen)
 }
 
-// P1, P4: the same of programs that are made up by the grammar alone.
+// P5, P6: the same of programs that call their functions again and again, with what is bet and with other things.
+func TestCallsAgainstAWalk(t *testing.T) {
+	random := rand.New(rand.NewPCG(7, 8))
+	seen := map[api.Errno]int{}
+	for i := range 12000 {
+		m := &maker{random: random, wrongs: 20 << (i % 8)}
+		text := m.calling()
+		holdRun(t, text, m.bets(), seen)
+	}
+	if seen[fastCalls] < 20000 || seen[drops] < 4000 {
+		t.Errorf("only %d fast calls, %d drops", seen[fastCalls], seen[drops])
+	}
+	t.Log(seen)
+}
+
+// P1, P4, P5, P6: the same of programs that are made up by the grammar alone.
 func TestGrammarAgainstAWalk(t *testing.T) {
 	r := readGrammar()
 	random := rand.New(rand.NewPCG(5, 6))

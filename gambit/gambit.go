@@ -56,5 +56,5 @@ func (p *Program) Functions() []string {
 
 // Run runs the program (P4, P5).
 func (p *Program) Run(bets []api.Bet) api.Result {
-	return machine.Run(p.code)
+	return machine.Run(p.code, bets)
 }

@@ -18,10 +18,12 @@ func compiled(t *testing.T, text string) *gambit.Program {
 	return p
 }
 
-// ends asks for what a program prints, and for how it ends.
+// ends asks for what a program prints, and for how it ends, whatever is bet.
 func ends(t *testing.T, code api.Errno, line int, text string, out ...string) {
 	t.Helper()
-	got := compiled(t, text).Run(nil)
+	p := compiled(t, text)
+	got := p.Run(nil)
+	holdWhatever(t, p, text, got)
 	if got.Code != code || got.Line != line || !slices.Equal(got.Out, out) {
 		t.Errorf("Run of %.300q: %.300q, %d in line %d; want %.300q, %d in line %d", text, got.Out, got.Code, got.Line, out, code, line)
 	}

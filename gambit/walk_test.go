@@ -12,6 +12,7 @@ import (
 // A walker does what a program says by going over its tree, with none of the program's own instructions, slots or values.
 type walker struct {
 	functions map[string]*tree.Function
+	bettors   map[string]*bettor
 	globals   *scope
 	fuel      int
 	depth     int
@@ -43,19 +44,41 @@ const (
 	returned
 )
 
-// walk answers what a program does.
-func walk(program *tree.Program) (result api.Result) {
-	w := &walker{functions: map[string]*tree.Function{}, globals: &scope{names: map[string]any{}}}
+// A bettor holds bets against the calls of one function.
+type bettor struct {
+	made        map[int]api.Bet // by the number of the call at which they make a form
+	calls       int
+	form        *api.Bet
+	fast, drops int
+}
+
+// walk answers what a program does, and how its functions fare.
+func walk(program *tree.Program, bets []api.Bet) (result api.Result) {
+	w := &walker{functions: map[string]*tree.Function{}, bettors: map[string]*bettor{}, globals: &scope{names: map[string]any{}}}
+	var order []*bettor
 	for _, s := range program.Body {
 		switch s := s.(type) {
 		case *tree.Function:
 			w.functions[s.Ident.Name] = s
+			b := &bettor{made: map[int]api.Bet{}}
+			w.bettors[s.Ident.Name] = b
+			order = append(order, b)
 		case *tree.Let:
 			w.globals.names[s.Ident.Name] = nil
 		}
 	}
+	for i, bet := range bets {
+		// A later one takes the place of an earlier one.
+		if i < api.MaxBets && bet.Func >= 0 && bet.Func < len(order) {
+			order[bet.Func].made[bet.After] = bet
+		}
+	}
 	defer func() {
 		result.Out = w.out
+		for _, b := range order {
+			result.Fast = append(result.Fast, b.fast)
+			result.Drops = append(result.Drops, b.drops)
+		}
 		switch e := recover().(type) {
 		case nil:
 		case wrong:
@@ -254,6 +277,7 @@ func (w *walker) call(e *tree.Call, args []any) any {
 	w.burn(e.Line)
 	need(w.depth < api.MaxDepth, api.ErrDepth, e.Line)
 	f := w.functions[e.Name]
+	w.bettors[e.Name].call(args)
 	params := &scope{names: map[string]any{}, outer: w.globals}
 	for i, param := range f.Params {
 		params.names[param.Name] = args[i]
@@ -262,6 +286,46 @@ func (w *walker) call(e *tree.Call, args []any) any {
 	_, v := w.block(f.Body, params)
 	w.depth--
 	return v
+}
+
+func (b *bettor) call(args []any) {
+	if bet, ok := b.made[b.calls]; ok {
+		b.form = &bet
+	}
+	b.calls++
+	if b.form == nil {
+		return
+	}
+	for i, arg := range args {
+		if i < len(b.form.Kinds) && !heldBy(b.form.Kinds[i], b.form.Ints, i, arg) {
+			b.form = nil
+			b.drops++
+			return
+		}
+	}
+	b.fast++
+}
+
+// heldBy tells if a bet of one kind holds of an argument.
+func heldBy(kind int, ints []int64, place int, arg any) bool {
+	ok := true
+	switch kind {
+	case api.Int:
+		_, ok = arg.(int64)
+	case api.String:
+		_, ok = arg.(string)
+	case api.Bool:
+		_, ok = arg.(bool)
+	case api.Null:
+		ok = arg == nil
+	case api.Array:
+		_, ok = arg.(*array)
+	case api.Same:
+		// A place behind the list's end is as if a 0 stood there.
+		padded := append(append([]int64{}, ints...), make([]int64, place+1)...)
+		ok = arg == padded[place]
+	}
+	return ok
 }
 
 func length(v any, line int) int64 {

@@ -23,11 +23,18 @@ func init() {
 	actions[code.AskBool] = askBool
 
 	actions[code.Add] = add
-	actions[code.Subtract] = reckon
-	actions[code.Multiply] = reckon
-	actions[code.Divide] = reckon
-	actions[code.Rest] = reckon
+	actions[code.AddInts] = add
+	actions[code.Join] = join
+	actions[code.Subtract] = subtract
+	actions[code.SubtractInts] = subtract
+	actions[code.Multiply] = multiply
+	actions[code.MultiplyInts] = multiply
+	actions[code.Divide] = divide
+	actions[code.DivideInts] = divide
+	actions[code.Rest] = rest
+	actions[code.RestInts] = rest
 	actions[code.Negate] = negate
+	actions[code.NegateInt] = negate
 
 	actions[code.Equal] = equal
 	actions[code.NotEqual] = not
@@ -36,6 +43,10 @@ func init() {
 	actions[code.Less] = compare
 	actions[code.GreaterEqual] = compare
 	actions[code.LessEqual] = compare
+	actions[code.GreaterInts] = compareInts
+	actions[code.LessInts] = compareInts
+	actions[code.GreaterEqualInts] = compareInts
+	actions[code.LessEqualInts] = compareInts
 
 	actions[code.List] = list
 	actions[code.Length] = length

@@ -78,9 +78,8 @@ func call(m *machine, in code.Instruction) {
 		m.fail(api.ErrDepth, in)
 		return
 	}
-	called := &m.program.Functions[in.Arg]
 	m.calls.Push(m.now)
-	m.begin(&called.Body, called.Params)
+	m.begin(m.body(in.Arg), m.program.Functions[in.Arg].Params)
 }
 
 func leave(m *machine, in code.Instruction) {

@@ -18,6 +18,8 @@ type frame struct {
 // A machine is made for one run, and nothing of it is left behind.
 type machine struct {
 	program *code.Program
+	bets    []api.Bet // those that count
+	lots    []lot     // one for each function
 	globals []value.Value
 	values  stack.Stack[value.Value] // of each frame its local variables, and above them what is being worked out
 	calls   stack.Stack[frame]       // those that wait for the one that is now under way
@@ -28,22 +30,28 @@ type machine struct {
 	wrong   api.Fault
 }
 
-// Run answers what a program does.
-func Run(program *code.Program) api.Result {
+// Run answers what a program does, and how its functions fare with the bets on them.
+func Run(program *code.Program, bets []api.Bet) api.Result {
 	m := &machine{
 		program: program,
+		bets:    bets[:min(len(bets), api.MaxBets)],
+		lots:    make([]lot, len(program.Functions)),
 		globals: make([]value.Value, program.Globals),
 		fuel:    api.MaxFuel,
 	}
 	m.begin(&program.Main, 0)
 	m.work()
-	return api.Result{
+	result := api.Result{
 		Out:   m.out,
 		Code:  m.wrong.Code,
 		Line:  m.wrong.Line,
-		Fast:  make([]int, len(program.Functions)),
-		Drops: make([]int, len(program.Functions)),
+		Fast:  make([]int, len(m.lots)),
+		Drops: make([]int, len(m.lots)),
 	}
+	for i, l := range m.lots {
+		result.Fast[i], result.Drops[i] = l.fast, l.drops
+	}
+	return result
 }
 
 // work ends where something goes wrong or the program's own body does; those of functions end with a return.
@@ -92,6 +100,24 @@ func (m *machine) two() (left, right value.Value) {
 	right = m.values.Pop()
 	left = m.values.Pop()
 	return left, right
+}
+
+// both tells if what stands left and right of a sign is of a kind.
+func (m *machine) both(kind value.Kind) bool {
+	top := m.values.Len() - 1
+	return m.values.At(top).Kind == kind && m.values.At(top-1).Kind == kind
+}
+
+func (m *machine) askInts(in code.Instruction) bool {
+	if !m.both(value.Int) {
+		m.fail(api.ErrType, in)
+		return false
+	}
+	return true
+}
+
+func (m *machine) pushInt(number int64) {
+	m.values.Push(value.OfInt(number))
 }
 
 func (m *machine) pushBool(yes bool) {

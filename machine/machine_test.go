@@ -40,7 +40,7 @@ func TestCallsAndVariables(t *testing.T) {
 		}}}},
 	}
 	for range 2 {
-		got := Run(program)
+		got := Run(program, nil)
 		if want := []string{"null", "null", "3", "2", "5"}; !slices.Equal(got.Out, want) || got.Code != api.ErrType || got.Line != 9 {
 			t.Errorf("Run = %+v, want %q and an error in line 9", got, want)
 		}
@@ -52,10 +52,29 @@ func TestNothingIsLeftOnTheStack(t *testing.T) {
 		Main:      code.Body{Steps: []code.Instruction{{Op: code.Call}, {Op: code.Drop}}},
 		Functions: []code.Function{{Body: code.Body{Slots: 4, Steps: []code.Instruction{constantOf(value.OfInt(1)), {Op: code.ReturnNull}}}}},
 	}
-	m := &machine{program: program, fuel: 1}
+	m := &machine{program: program, lots: make([]lot, 1), fuel: 1}
 	m.begin(&program.Main, 0)
 	m.work()
 	if m.values.Len() != 0 || m.calls.Len() != 0 || m.fuel != 0 || m.wrong != (api.Fault{}) {
 		t.Errorf("behind a call: %d values, %d calls, fuel %d, %+v", m.values.Len(), m.calls.Len(), m.fuel, m.wrong)
+	}
+}
+
+// A fast call runs in its form, a slow one in the function's own body.
+func TestWhichBodyRuns(t *testing.T) {
+	steps := []code.Instruction{{Op: code.Load}, {Op: code.Load}, {Op: code.Add}, {Op: code.Return}}
+	program := &code.Program{Functions: []code.Function{{Params: 1, Body: code.Body{Slots: 1, Steps: steps}}}}
+	m := &machine{program: program, lots: make([]lot, 1), bets: []api.Bet{{After: 1, Kinds: []int{api.Int}}}}
+	for call, c := range []struct {
+		argument value.Value
+		want     code.Op
+	}{{value.OfInt(1), code.Add}, {value.OfInt(1), code.AddInts}, {value.OfInt(2), code.AddInts}, {value.OfString("a"), code.Add}, {value.OfInt(1), code.Add}} {
+		m.values.Push(c.argument)
+		if got := m.body(0).Steps[2].Op; got != c.want {
+			t.Errorf("call %d: instruction %d, want %d", call, got, c.want)
+		}
+	}
+	if m.lots[0] != (lot{calls: 5, fast: 2, drops: 1}) {
+		t.Errorf("behind the calls: %+v", m.lots[0])
 	}
 }

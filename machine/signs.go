@@ -7,60 +7,103 @@ import (
 )
 
 func add(m *machine, in code.Instruction) {
-	left, right := m.two()
-	if left.Kind == value.String && right.Kind == value.String {
-		join(m, left.Text, right.Text, in)
-		return
+	switch in.Op {
+	case code.Add:
+		if m.both(value.String) {
+			join(m, in)
+			return
+		}
+		if !m.askInts(in) {
+			return
+		}
+		fallthrough
+	case code.AddInts:
+		left, right := m.two()
+		m.pushInt(left.Int + right.Int)
 	}
-	ints(m, left, right, in)
 }
 
-func join(m *machine, left, right string, in code.Instruction) {
-	if len(left)+len(right) > api.MaxString {
+func join(m *machine, in code.Instruction) {
+	left, right := m.two()
+	if len(left.Text)+len(right.Text) > api.MaxString {
 		m.fail(api.ErrMemory, in)
 		return
 	}
-	m.values.Push(value.OfString(left + right))
+	m.values.Push(value.OfString(left.Text + right.Text))
 }
 
-func reckon(m *machine, in code.Instruction) {
-	left, right := m.two()
-	ints(m, left, right, in)
-}
-
-func ints(m *machine, left, right value.Value, in code.Instruction) {
-	switch {
-	case left.Kind != value.Int || right.Kind != value.Int:
-		m.fail(api.ErrType, in)
-	case right.Int == 0 && (in.Op == code.Divide || in.Op == code.Rest):
-		m.fail(api.ErrDivide, in)
-	default:
-		m.values.Push(value.OfInt(workedOut(in.Op, left.Int, right.Int)))
-	}
-}
-
-// workedOut needs no care for the least int: Go's own signs wrap round as those of programs do.
-func workedOut(op code.Op, left, right int64) int64 {
-	switch op {
-	case code.Add:
-		return left + right
+func subtract(m *machine, in code.Instruction) {
+	switch in.Op {
 	case code.Subtract:
-		return left - right
-	case code.Multiply:
-		return left * right
-	case code.Divide:
-		return left / right
+		if !m.askInts(in) {
+			return
+		}
+		fallthrough
+	case code.SubtractInts:
+		left, right := m.two()
+		m.pushInt(left.Int - right.Int)
 	}
-	return left % right
+}
+
+func multiply(m *machine, in code.Instruction) {
+	switch in.Op {
+	case code.Multiply:
+		if !m.askInts(in) {
+			return
+		}
+		fallthrough
+	case code.MultiplyInts:
+		left, right := m.two()
+		m.pushInt(left.Int * right.Int)
+	}
+}
+
+// divide needs no care for the least int: Go's own signs wrap round as those of programs do.
+func divide(m *machine, in code.Instruction) {
+	switch in.Op {
+	case code.Divide:
+		if !m.askInts(in) {
+			return
+		}
+		fallthrough
+	case code.DivideInts:
+		left, right := m.two()
+		if right.Int == 0 {
+			m.fail(api.ErrDivide, in)
+			return
+		}
+		m.pushInt(left.Int / right.Int)
+	}
+}
+
+func rest(m *machine, in code.Instruction) {
+	switch in.Op {
+	case code.Rest:
+		if !m.askInts(in) {
+			return
+		}
+		fallthrough
+	case code.RestInts:
+		left, right := m.two()
+		if right.Int == 0 {
+			m.fail(api.ErrDivide, in)
+			return
+		}
+		m.pushInt(left.Int % right.Int)
+	}
 }
 
 func negate(m *machine, in code.Instruction) {
-	of := m.values.Pop()
-	if of.Kind != value.Int {
-		m.fail(api.ErrType, in)
-		return
+	switch in.Op {
+	case code.Negate:
+		if m.values.Top().Kind != value.Int {
+			m.fail(api.ErrType, in)
+			return
+		}
+		fallthrough
+	case code.NegateInt:
+		m.pushInt(-m.values.Pop().Int)
 	}
-	m.values.Push(value.OfInt(-of.Int))
 }
 
 func equal(m *machine, in code.Instruction) {
@@ -84,11 +127,11 @@ func not(m *machine, in code.Instruction) {
 }
 
 func compare(m *machine, in code.Instruction) {
-	left, right := m.two()
-	if left.Kind != right.Kind || left.Kind != value.Int && left.Kind != value.String {
+	if !m.both(value.Int) && !m.both(value.String) {
 		m.fail(api.ErrType, in)
 		return
 	}
+	left, right := m.two()
 	switch in.Op {
 	case code.Greater:
 		left, right = right, left
@@ -106,4 +149,20 @@ func compare(m *machine, in code.Instruction) {
 // before is of two ints or two strings: what their kind does not use is the same in both.
 func before(left, right value.Value) bool {
 	return left.Int < right.Int || left.Text < right.Text
+}
+
+func compareInts(m *machine, in code.Instruction) {
+	left, right := m.two()
+	switch in.Op {
+	case code.GreaterInts:
+		left, right = right, left
+		fallthrough
+	case code.LessInts:
+		m.pushBool(left.Int < right.Int)
+	case code.GreaterEqualInts:
+		left, right = right, left
+		fallthrough
+	case code.LessEqualInts:
+		m.pushBool(left.Int <= right.Int)
+	}
 }
