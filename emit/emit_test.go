@@ -5,6 +5,7 @@ import (
 	"testing"
 
 	"gambit/code"
+	"gambit/machine"
 	"gambit/parse"
 	"gambit/scan"
 	"gambit/value"
@@ -64,5 +65,19 @@ func TestDeciding(t *testing.T) {
 	}
 	if !slices.Equal(got, want) {
 		t.Errorf("got %v, want %v", got, want)
+	}
+}
+
+// Of every sort of statement and expression the instructions are such as can be run.
+func TestAllIsKnown(t *testing.T) {
+	program := emitted(t, `let a = [1, "s", true, null]; fn f(x, y) { let z = x; x = y; a = z; if x { return; } else { return y; } }
+		while a == 1 || a != 2 && !a { if a { break; } continue; } a[0] = -a; print f(len(a), push(a, 1)); a;
+		print (1 + 2 - 3 * 4 / 5 % 6 < 7) == (1 > 2) == (1 <= 2) == (a[0] >= 2);`)
+	for _, body := range []code.Body{program.Main, program.Functions[0].Body} {
+		for _, in := range body.Steps {
+			if !machine.Knows(in.Op) {
+				t.Errorf("%+v is not known", in)
+			}
+		}
 	}
 }

@@ -4,58 +4,87 @@ import "gambit/code"
 
 type action func(m *machine, in code.Instruction)
 
-// actions says of each instruction what it does. Instructions that go on with one another's work share an action.
+// actions says of each instruction what it does, as actionOf does, by which runs find it.
 var actions [code.Ops]action
 
 func init() {
-	actions[code.Constant] = constant
-	actions[code.Load] = load
-	actions[code.LoadGlobal] = loadGlobal
-	actions[code.Store] = store
-	actions[code.StoreGlobal] = storeGlobal
-	actions[code.Drop] = drop
+	for op := range actions {
+		actions[op] = actionOf(code.Op(op))
+	}
+}
 
-	actions[code.Jump] = jump
-	actions[code.Round] = unless
-	actions[code.Unless] = unless
-	actions[code.And] = decide
-	actions[code.Or] = decide
-	actions[code.AskBool] = askBool
+// Knows tells if there is something that an instruction does.
+func Knows(op code.Op) bool {
+	return op >= 0 && op < code.Ops && actions[op] != nil
+}
 
-	actions[code.Add] = add
-	actions[code.AddInts] = add
-	actions[code.Join] = join
-	actions[code.Subtract] = subtract
-	actions[code.SubtractInts] = subtract
-	actions[code.Multiply] = multiply
-	actions[code.MultiplyInts] = multiply
-	actions[code.Divide] = divide
-	actions[code.DivideInts] = divide
-	actions[code.Rest] = rest
-	actions[code.RestInts] = rest
-	actions[code.Negate] = negate
-	actions[code.NegateInt] = negate
+// actionOf answers what an instruction does; nil, if there is no such one. Instructions that go on with one another's work share an action.
+func actionOf(op code.Op) action {
+	switch op {
+	case code.Constant:
+		return constant
+	case code.Load:
+		return load
+	case code.LoadGlobal:
+		return loadGlobal
+	case code.Store:
+		return store
+	case code.StoreGlobal:
+		return storeGlobal
+	case code.Drop:
+		return drop
+	case code.Jump:
+		return jump
+	case code.Round, code.Unless:
+		return unless
+	case code.And, code.Or:
+		return decide
+	case code.AskBool:
+		return askBool
+	case code.Print:
+		return tell
+	case code.Call:
+		return call
+	case code.ReturnNull, code.Return:
+		return leave
+	case code.List:
+		return list
+	case code.Length:
+		return length
+	case code.Push:
+		return push
+	case code.Index:
+		return index
+	case code.SetIndex:
+		return setIndex
+	}
+	return actionOfSign(op)
+}
 
-	actions[code.Equal] = equal
-	actions[code.NotEqual] = not
-	actions[code.Not] = not
-	actions[code.Greater] = compare
-	actions[code.Less] = compare
-	actions[code.GreaterEqual] = compare
-	actions[code.LessEqual] = compare
-	actions[code.GreaterInts] = compareInts
-	actions[code.LessInts] = compareInts
-	actions[code.GreaterEqualInts] = compareInts
-	actions[code.LessEqualInts] = compareInts
-
-	actions[code.List] = list
-	actions[code.Length] = length
-	actions[code.Push] = push
-	actions[code.Index] = index
-	actions[code.SetIndex] = setIndex
-
-	actions[code.Print] = tell
-	actions[code.Call] = call
-	actions[code.ReturnNull] = leave
-	actions[code.Return] = leave
+func actionOfSign(op code.Op) action {
+	switch op {
+	case code.Add, code.AddInts:
+		return add
+	case code.Join:
+		return join
+	case code.Subtract, code.SubtractInts:
+		return subtract
+	case code.Multiply, code.MultiplyInts:
+		return multiply
+	case code.Divide, code.DivideInts:
+		return divide
+	case code.Rest, code.RestInts:
+		return rest
+	case code.Negate, code.NegateInt:
+		return negate
+	case code.Equal:
+		return equal
+	case code.NotEqual, code.Not:
+		return not
+	case code.Greater, code.Less, code.GreaterEqual, code.LessEqual:
+		return compare
+	case code.GreaterInts, code.LessInts, code.GreaterEqualInts, code.LessEqualInts:
+		return compareInts
+	}
+	return nil
 }

@@ -59,7 +59,7 @@ func (m *machine) work() {
 	for m.wrong.Code == api.OK && m.now.at < len(m.now.steps) {
 		in := m.now.steps[m.now.at]
 		m.now.at++
-		actions[in.Op](m, in)
+		actionOf(in.Op)(m, in)
 	}
 }
 

@@ -1,6 +1,8 @@
 package machine
 
 import (
+	"math"
+	"reflect"
 	"slices"
 	"testing"
 
@@ -10,10 +12,38 @@ import (
 )
 
 func TestEachInstructionHasAnAction(t *testing.T) {
-	for op, action := range actions {
-		if action == nil {
+	for op := range code.Ops {
+		if !Knows(op) || actionOf(op) == nil {
 			t.Errorf("instruction %d has none", op)
 		}
+	}
+	for _, op := range []code.Op{-1, code.Ops, math.MinInt, math.MaxInt} {
+		if Knows(op) || actionOf(op) != nil {
+			t.Errorf("%d is no instruction, but has an action", op)
+		}
+	}
+}
+
+// The table and the function, by which runs find actions, say the same.
+func TestTableAndFunction(t *testing.T) {
+	for op := range code.Ops {
+		if reflect.ValueOf(actions[op]).Pointer() != reflect.ValueOf(actionOf(op)).Pointer() {
+			t.Errorf("instruction %d has two actions", op)
+		}
+	}
+}
+
+// Runs do not look into the table.
+func TestRunsWithoutTheTable(t *testing.T) {
+	kept := actions
+	defer func() { actions = kept }()
+	clear(actions[:])
+	program := &code.Program{Main: code.Body{Steps: []code.Instruction{constantOf(value.OfInt(5)), {Op: code.Negate}, {Op: code.Print}}}}
+	if got := Run(program, nil); !slices.Equal(got.Out, []string{"-5"}) {
+		t.Errorf("Run = %+v", got)
+	}
+	if Knows(code.Print) {
+		t.Errorf("Knows does not look into the table")
 	}
 }
 
